@@ -1,0 +1,1 @@
+"""Home automation rules: a house that is simulated minute by minute."""
